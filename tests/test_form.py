@@ -1,0 +1,208 @@
+"""Asks the package's files for the rules of LANGUAGE.md that a look at the code can see."""
+
+import ast
+import builtins
+import pathlib
+import re
+import unittest
+
+PACKAGE = pathlib.Path(__file__).resolve().parent.parent / "roundcede"
+
+OWN_NAMES = set(
+    "len range enumerate zip min max sum abs sorted reversed int str bool list tuple dict set frozenset isinstance "
+    "ord repr any all divmod Exception ValueError TypeError KeyError IndexError LookupError ZeroDivisionError "
+    "ArithmeticError OverflowError RuntimeError NotImplementedError AttributeError StopIteration".split()
+)
+METHODS = set(
+    "append clear copy count endswith extend find get index insert isalnum isalpha isdigit islower isspace isupper "
+    "items join keys ljust lower lstrip partition pop remove replace reverse rfind rjust rpartition rsplit rstrip "
+    "setdefault split splitlines startswith strip update upper values zfill bit_length".split()
+)
+BANNED_WORDS = set(
+    "type typing typing_extensions enum Enum IntEnum StrEnum Flag IntFlag Generic Protocol ABC ABCMeta namedtuple "
+    "NamedTuple TypedDict TYPE_CHECKING abstractmethod".split()
+)
+BANNED_PARTS = ("dataclass", "overload", "contextmanager")
+BANNED_NAMES = set("register mro elements open input version_info with_traceback add_note format format_map".split())
+TWO_UNDERSCORES = set("__init__ __eq__ __repr__ __str__ __len__".split())
+NODES = set(
+    "Module Expr ImportFrom alias FunctionDef arguments arg Lambda ClassDef Assign AugAssign If While For Return Break "
+    "Continue Pass Raise Try ExceptHandler Constant List Tuple Dict Set BinOp UnaryOp BoolOp Compare IfExp Call keyword "
+    "Attribute Subscript Slice ListComp comprehension JoinedStr FormattedValue Name Load Store "
+    "Add Sub Mult FloorDiv Mod Pow BitAnd BitOr BitXor LShift RShift USub UAdd Invert Not And Or "
+    "Eq NotEq Lt LtE Gt GtE In NotIn Is IsNot".split()
+)
+
+
+def text_faults(text):
+    rows = text.split("\n")
+    faults = []
+    if len(rows) > 401:
+        faults.append("L10: more than 400 rows")
+    for number, row in enumerate(rows, 1):
+        if len(row) > 120:
+            faults.append(f"L10: row {number} is too long")
+        if not all(" " <= sign <= "~" for sign in row):
+            faults.append(f"L14: row {number} has another sign")
+    for word in re.findall(r"\w+", text):
+        if word in BANNED_WORDS or any(part in word for part in BANNED_PARTS):
+            faults.append(f"L17: the word {word}")
+    return faults
+
+
+def names_of(node):
+    """Tells the names that a node binds, reads or asks for."""
+    found = []
+    for field in ("id", "attr", "name", "arg", "asname"):
+        value = getattr(node, field, None)
+        if isinstance(value, str):
+            found.append(value)
+    return found
+
+
+def name_faults(node):
+    faults = []
+    for name in names_of(node):
+        if isinstance(node, ast.alias) or name in TWO_UNDERSCORES:
+            continue
+        if name.startswith("_"):
+            faults.append(f"L12: {name}")
+        if name in BANNED_NAMES:
+            faults.append(f"L17: {name}")
+        asked = isinstance(node, ast.Name) and isinstance(node.ctx, ast.Load)
+        if asked and hasattr(builtins, name) and name not in OWN_NAMES:
+            faults.append(f"L8: {name}")
+        bound = isinstance(node, ast.arg) or isinstance(node, ast.Name) and isinstance(node.ctx, ast.Store)
+        if bound and hasattr(builtins, name):
+            faults.append(f"L15: {name}")
+    return faults
+
+
+def function_faults(node):
+    faults = []
+    if node.end_lineno - node.lineno + 1 > 40:
+        faults.append(f"L10: {node.name} has more than 40 rows")
+    asked = node.args
+    if node.decorator_list or asked.vararg or asked.kwarg or asked.kwonlyargs or asked.posonlyargs:
+        faults.append(f"L4: {node.name}")
+    return faults
+
+
+def class_faults(node):
+    faults = []
+    if node.decorator_list or node.keywords or len(node.bases) > 1:
+        faults.append(f"L5: {node.name}")
+    for inner in node.body:
+        if not isinstance(inner, (ast.FunctionDef, ast.Pass)):
+            faults.append(f"L5: {node.name} holds more than methods")
+    return faults
+
+
+def import_faults(node):
+    parts = (node.module or "").split(".")
+    if node.level != 0 or parts[0] != "roundcede" or len(parts) != 2:
+        return [f"L2: {node.module}"]
+    source = PACKAGE / (parts[1] + ".py")
+    defined = []
+    for inner in ast.parse(source.read_text()).body:
+        defined += [target.id for target in getattr(inner, "targets", [])] + [getattr(inner, "name", None)]
+    return [f"L16: {one.name}" for one in node.names if one.name not in defined]
+
+
+def value_faults(node):
+    faults = []
+    if isinstance(node, ast.Constant):
+        if node.value is not None and not isinstance(node.value, (bool, int, str)):
+            faults.append(f"L7: {node.value}")
+        if isinstance(node.value, str) and "%" in node.value:
+            faults.append("L27: a text with the sign of L27")
+    if isinstance(node, ast.Assign) and len(node.targets) != 1:
+        faults.append("L6: several targets")
+    if isinstance(node, (ast.For, ast.While)) and node.orelse or isinstance(node, ast.Try) and node.finalbody:
+        faults.append("L6: else behind a loop, or finally")
+    if isinstance(node, ast.ListComp) and (len(node.generators) > 1 or len(node.generators[0].ifs) > 1):
+        faults.append("L7: a long comprehension")
+    if isinstance(node, ast.Compare) and any(isinstance(one, (ast.Is, ast.IsNot)) for one in node.ops):
+        sides = [node.left] + node.comparators
+        if not any(isinstance(one, ast.Constant) and one.value in (None, True, False) for one in sides):
+            faults.append("L20: is")
+    return faults
+
+
+def tree_faults(text, own):
+    faults = []
+    tree = ast.parse(text)
+    for node in ast.walk(tree):
+        if node.__class__.__name__ not in NODES:
+            faults.append(f"L6 or L7: {node.__class__.__name__}")
+        faults += name_faults(node) + value_faults(node)
+        if isinstance(node, ast.FunctionDef):
+            faults += function_faults(node)
+        if isinstance(node, ast.ClassDef):
+            faults += class_faults(node)
+        if isinstance(node, ast.ImportFrom):
+            faults += import_faults(node)
+            if node not in tree.body:
+                faults.append("L2: an import that is not at the top")
+        if isinstance(node, ast.Attribute) and node.attr not in METHODS | own | TWO_UNDERSCORES:
+            faults.append(f"L25: {node.attr}")
+    return faults
+
+
+def own_attributes(texts):
+    """Tells the names that the package's classes give to their methods and values."""
+    own = set()
+    for text in texts:
+        for node in ast.walk(ast.parse(text)):
+            if isinstance(node, ast.FunctionDef):
+                own.add(node.name)
+            if isinstance(node, ast.Attribute) and isinstance(node.ctx, ast.Store):
+                own.add(node.attr)
+    return own
+
+
+def files():
+    return sorted(PACKAGE.rglob("*.py"))
+
+
+class Form(unittest.TestCase):
+    def test_the_folder_holds_python_files_alone(self):
+        for one in PACKAGE.rglob("*"):
+            if "__pycache__" not in one.parts:
+                self.assertTrue(one.is_file(), one)
+                self.assertRegex(one.name, r"^([a-z][a-z0-9_]*|__init__|__main__)\.py$")
+        self.assertIn(PACKAGE / "__init__.py", files())
+
+    def test_each_file_keeps_to_the_rules(self):
+        own = own_attributes([one.read_text() for one in files()])
+        for one in files():
+            with self.subTest(file=one.name):
+                text = one.read_bytes().decode("ascii")
+                self.assertEqual(text_faults(text) + tree_faults(text, own), [])
+
+
+class FormIsSeen(unittest.TestCase):
+    def test_code_outside_the_rules_is_found(self):
+        for text in (
+            "import time\n", "from time import time\n", "from . import exact\n", "from roundcede.exact import none\n",
+            "from roundcede import exact\n", "x = 1 / 2\n", "x = 0.5\n", "x = b'a'\n", "x = {1: 2 for y in z}\n",
+            "x = open('a')\n", "x = chr(65)\n", "def f(*a):\n    pass\n", "def f():\n    import time\n",
+            "def _f():\n    pass\n", "def f(id):\n    pass\n", "x = y = 1\n", "x = a is b\n", "x = a.sort()\n",
+            "assert x\n", "x = '%'\n", "class A:\n    x = 1\n", "x = [a for a in b for c in d]\n", "with a:\n    pass\n",
+            "def f():\n" + "    pass\n" * 40, "for a in b:\n    pass\nelse:\n    pass\n",
+        ):
+            with self.subTest(text=text):
+                self.assertNotEqual(tree_faults(text, set()), [])
+
+    def test_texts_outside_the_rules_are_found(self):
+        for text in ("\t\n", "# \u00e9\n", "#" * 121 + "\n", "x\n" * 401, "# a type\n", "# mydataclasses\n", "x\r\n"):
+            with self.subTest(text=text[:20]):
+                self.assertNotEqual(text_faults(text), [])
+
+    def test_plain_code_is_let_through(self):
+        text = "def f(a):\n    return [b for b in sorted(set(a)) if b is not None]\n"
+        self.assertEqual(text_faults(text) + tree_faults(text, set()), [])
+
+
+if __name__ == "__main__":
+    unittest.main()
