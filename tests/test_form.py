@@ -129,9 +129,45 @@ def value_faults(node):
     return faults
 
 
-def tree_faults(text, own):
+def local_faults(tree):
+    """No parameter and no local is called like a class or an import of its file."""
+    taken = set()
+    for node in tree.body:
+        if isinstance(node, ast.ImportFrom):
+            taken.update(one.asname or one.name for one in node.names)
+        if isinstance(node, ast.ClassDef):
+            taken.add(node.name)
     faults = []
+    for node in ast.walk(tree):
+        bound = isinstance(node, ast.arg) or isinstance(node, ast.Name) and isinstance(node.ctx, ast.Store)
+        name = getattr(node, "arg", getattr(node, "id", None))
+        if bound and name in taken:
+            faults.append(f"L15: {name}")
+    return faults
+
+
+def drawn_from(text):
+    return [node.module.split(".")[1] for node in ast.walk(ast.parse(text)) if isinstance(node, ast.ImportFrom)]
+
+
+def ring_faults(drawn):
+    """No two files draw from one another, in whatever many steps."""
+    faults = []
+    for start in drawn:
+        found, waiting = set(), list(drawn[start])
+        while waiting:
+            one = waiting.pop()
+            if one not in found:
+                found.add(one)
+                waiting += drawn[one]
+        if start in found:
+            faults.append(f"L16: {start}")
+    return faults
+
+
+def tree_faults(text, own):
     tree = ast.parse(text)
+    faults = local_faults(tree)
     for node in ast.walk(tree):
         if node.__class__.__name__ not in NODES:
             faults.append(f"L6 or L7: {node.__class__.__name__}")
@@ -180,6 +216,9 @@ class Form(unittest.TestCase):
                 text = one.read_bytes().decode("ascii")
                 self.assertEqual(text_faults(text) + tree_faults(text, own), [])
 
+    def test_no_two_files_draw_from_one_another(self):
+        self.assertEqual(ring_faults({one.stem: drawn_from(one.read_text()) for one in files()}), [])
+
 
 class FormIsSeen(unittest.TestCase):
     def test_code_outside_the_rules_is_found(self):
@@ -189,6 +228,8 @@ class FormIsSeen(unittest.TestCase):
             "x = open('a')\n", "x = chr(65)\n", "def f(*a):\n    pass\n", "def f():\n    import time\n",
             "def _f():\n    pass\n", "def f(id):\n    pass\n", "x = y = 1\n", "x = a is b\n", "x = a.sort()\n",
             "assert x\n", "x = '%'\n", "class A:\n    x = 1\n", "x = [a for a in b for c in d]\n", "with a:\n    pass\n",
+            "from roundcede.exact import less\ndef f(less):\n    pass\n", "class A:\n    def f(self, A):\n        pass\n",
+            "from roundcede.exact import less\ndef f():\n    for less in a:\n        pass\n",
             "def f():\n" + "    pass\n" * 40, "for a in b:\n    pass\nelse:\n    pass\n",
         ):
             with self.subTest(text=text):
@@ -198,6 +239,10 @@ class FormIsSeen(unittest.TestCase):
         for text in ("\t\n", "# \u00e9\n", "#" * 121 + "\n", "x\n" * 401, "# a type\n", "# mydataclasses\n", "x\r\n"):
             with self.subTest(text=text[:20]):
                 self.assertNotEqual(text_faults(text), [])
+
+    def test_files_that_draw_from_one_another_are_found(self):
+        self.assertEqual(ring_faults({"a": ["b"], "b": ["c"], "c": []}), [])
+        self.assertEqual(ring_faults({"a": ["b"], "b": ["c"], "c": ["b"]}), ["L16: b", "L16: c"])
 
     def test_plain_code_is_let_through(self):
         text = "def f(a):\n    return [b for b in sorted(set(a)) if b is not None]\n"
