@@ -1,12 +1,20 @@
 """What the tests share: houses and ways, the same on every run, plain looks at them that the program has no part in,
-and what is asked of every function alike."""
+a book kept on another way, and what is asked of every function alike."""
 
 import copy
+import functools
 import inspect
 import itertools
+import re
 import unittest
 from fractions import Fraction
 from math import gcd
+
+from roundcede import errors
+from roundcede.book import Book
+
+# Neither in the order of the letters nor in its turn, so that the order of writing is an order of its own.
+NAMES = "oak ash yew hornbeam q elm fir box bay fig ivy may nut pea rye".split()
 
 
 def dice(seed):
@@ -206,7 +214,224 @@ def lists_in(value):
     return found
 
 
+def given(amount, parts):
+    """Tells the coins by the words of point 12."""
+    due = [amount * Fraction(*part) for part in parts]
+    told = [one.numerator // one.denominator for one in due]
+    order = sorted(range(len(parts)), key=lambda place: (told[place] - due[place], place))
+    for place in order[:amount - sum(told)]:
+        told[place] += 1
+    return told
+
+
+@functools.lru_cache(maxsize=None)
+def solved(count, ways, start):
+    """Tells the arrivals, by Python's own fractions."""
+    rows = [[Fraction(one == two) for two in range(count)] + [Fraction(one == start)] for one in range(count)]
+    for giver, taker, part in ways:
+        rows[taker][giver] -= Fraction(part, 1000)
+    for place in range(count):
+        own = [number / rows[place][place] for number in rows[place]]
+        for other, row in enumerate(rows):
+            if row[place]:
+                rows[other] = [one - row[place] * two for one, two in zip(row, own)]
+        rows[place] = own
+    return tuple(row[count] for row in rows)
+
+
+def written(parts):
+    return [(part.numerator, part.denominator) for part in parts]
+
+
+class Plain:
+    """A book kept on a way of its own, straight by the words of points 13 to 23, with a look at each day alone."""
+
+    def __init__(self):
+        self.told = []
+
+    def standing(self, kind):
+        return [deed[1:] for deed in self.told if deed[0] == kind]
+
+    def houses(self):
+        return [name for name, in self.standing("house")]
+
+    def pacts(self):
+        return self.standing("pact")
+
+    def losses(self):
+        return self.standing("loss")
+
+    def deeds(self):
+        return [" ".join(map(str, deed)) for deed in self.told]
+
+    def need(self, *names):
+        if not set(names) <= set(self.houses()):
+            raise errors.UnknownHouse()
+
+    def within(self, *bounded):
+        if any(number not in range(least, most + 1) for number, least, most in bounded):
+            raise errors.OutOfRange()
+
+    def house(self, name):
+        if not re.fullmatch("[a-z]{1,8}", name):
+            raise errors.BadName()
+        if name in self.houses():
+            raise errors.KnownHouse()
+        if len(self.houses()) == 15:
+            raise errors.Full()
+        self.told.append(("house", name))
+
+    def first_four(self, giver, taker, part, first, last, day):
+        self.need(giver, taker)
+        if giver == taker:
+            raise errors.ToItself()
+        if first > last:
+            raise errors.DaysTurned()
+        self.within((part, 1, 1000), (first, 0, 5000), (last, 0, 5000), (day, 0, 5000))
+
+    def by(self, pacts, day):
+        place = self.houses().index
+        return [(place(pact[0]), place(pact[1]), pact[2]) for pact in pacts if pact[3] <= day <= pact[4]]
+
+    def looks(self, pacts):
+        """Tells the ways of each day on which other pacts hold than on the day before."""
+        days = {0} | {pact[3] for pact in pacts} | {pact[4] + 1 for pact in pacts}
+        return [(day, self.by(pacts, day)) for day in sorted(days) if day <= 5000]
+
+    def whom(self, pact):
+        looks = self.looks(self.pacts() + [pact])
+        count = len(self.houses())
+        if any(min(keeps(count, ways)) < 0 for day, ways in looks):
+            raise errors.TooMuch()
+        for day, ways in looks:
+            if left_shut(count, ways):
+                return (day, [self.houses()[place] for place in left_shut(count, ways)])
+        return None
+
+    def last_two(self, pact):
+        whom = self.whom(pact)
+        if whom:
+            raise errors.ShutIn(*whom)
+        if len(self.pacts()) == 80:
+            raise errors.Full()
+
+    def pact(self, *pact):
+        self.first_four(*pact, 0)
+        self.last_two(pact)
+        self.told.append(("pact",) + pact)
+
+    def shut(self, *pact):
+        self.first_four(*pact, 0)
+        return self.whom(pact)
+
+    def loss(self, house, day, amount):
+        self.need(house)
+        self.within((day, 0, 5000), (amount, 1, 10 ** 12))
+        if len(self.losses()) == 200:
+            raise errors.Full()
+        self.told.append(("loss", house, day, amount))
+
+    def take_back(self):
+        if not self.told:
+            raise errors.NothingDone()
+        row = self.deeds()[-1]
+        self.told = self.told[:-1]
+        return row
+
+    def ways(self, day):
+        self.within((day, 0, 5000))
+        return self.by(self.pacts(), day)
+
+    def arriving(self, pacts, house, day):
+        return solved(len(self.houses()), tuple(self.by(pacts, day)), self.houses().index(house))
+
+    def bearing(self, pacts, house, day):
+        rests = keeps(len(self.houses()), self.by(pacts, day))
+        return [Fraction(rest, 1000) * one for rest, one in zip(rests, self.arriving(pacts, house, day))]
+
+    def paper(self, house, day):
+        self.need(house)
+        self.within((day, 0, 5000))
+        return written(self.arriving(self.pacts(), house, day))
+
+    def shares(self, house, day):
+        self.need(house)
+        self.within((day, 0, 5000))
+        return written(self.bearing(self.pacts(), house, day))
+
+    def coins(self, house, day, amount):
+        self.need(house)
+        self.within((day, 0, 5000), (amount, 1, 10 ** 12))
+        return given(amount, self.shares(house, day))
+
+    def rounds(self, house, day, amount, many):
+        self.need(house)
+        self.within((day, 0, 5000), (amount, 1, 10 ** 12), (many, 0, 300))
+        count, ways = len(self.houses()), self.by(self.pacts(), day)
+        rests = keeps(count, ways)
+        told = [([amount * (name == house) for name in self.houses()], [0] * count)]
+        for turn in range(many):
+            came, had = told[-1]
+            sent = [sum(part * came[one] for one, two, part in ways if two == place) for place in range(count)]
+            told.append((sent, [1000 * had[place] + rests[place] * came[place] for place in range(count)]))
+        return told
+
+    def borne(self, house, day):
+        self.need(house)
+        self.within((day, 0, 5000))
+        place = self.houses().index(house)
+        return sum(self.coins(*loss)[place] for loss in self.losses() if loss[1] <= day)
+
+    def change(self, house, day, *pact):
+        self.need(house)
+        self.first_four(*pact, day)
+        self.last_two(pact)
+        now = self.bearing(self.pacts(), house, day)
+        return written(one - two for one, two in zip(self.bearing(self.pacts() + [pact], house, day), now))
+
+
+def words_of(row):
+    return [int(word) if word.lstrip("-").isdigit() else word for word in row.split()]
+
+
+def told_to(book, rows):
+    """Tells a book deeds: a text is the name of a house, three words are a loss, five a pact."""
+    for row in rows:
+        words = words_of(row)
+        {1: book.house, 3: book.loss, 5: book.pact}[len(words)](*words)
+    return book
+
+
+def book_of(count, *rows):
+    return told_to(told_to(Book(), NAMES[:count]), rows)
+
+
+def outcome(call, *handed):
+    """Tells what is answered, or the class and the fields of what is raised."""
+    try:
+        return call(*handed)
+    except errors.CedeError as refusal:
+        return (refusal.__class__, getattr(refusal, "day", None), getattr(refusal, "names", None))
+
+
+def everything(book, days):
+    """Tells the answers to every question about these days."""
+    told = [book.houses(), book.pacts(), book.losses(), book.deeds()]
+    for day in days:
+        told.append(book.ways(day))
+        for name in book.houses():
+            told += [book.paper(name, day), book.shares(name, day), book.coins(name, day, 1001)]
+            told += [book.rounds(name, day, 7, 3), book.borne(name, day)]
+    return told
+
+
 class Case(unittest.TestCase):
+    def refused(self, error, call, *handed):
+        with self.assertRaises(errors.CedeError) as caught:
+            call(*handed)
+        self.assertIs(caught.exception.__class__, error, handed)
+        return caught.exception
+
     def takes(self, function, names):
         asked = list(inspect.signature(function).parameters.values())
         self.assertEqual([one.name for one in asked], names)

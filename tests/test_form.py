@@ -24,11 +24,13 @@ BANNED_WORDS = set(
 )
 BANNED_PARTS = ("dataclass", "overload", "contextmanager")
 BANNED_NAMES = set("register mro elements open input version_info with_traceback add_note format format_map".split())
+WALKED = ("zip", "enumerate", "reversed", "range")
+WALKERS = ("list", "tuple", "dict", "sorted", "sum", "any", "all", "enumerate", "zip", "min", "max", "join")
 TWO_UNDERSCORES = set("__init__ __eq__ __repr__ __str__ __len__".split())
 NODES = set(
     "Module Expr ImportFrom alias FunctionDef arguments arg Lambda ClassDef Assign AugAssign If While For Return Break "
-    "Continue Pass Raise Try ExceptHandler Constant List Tuple Dict Set BinOp UnaryOp BoolOp Compare IfExp Call keyword "
-    "Attribute Subscript Slice ListComp comprehension JoinedStr FormattedValue Name Load Store "
+    "Continue Pass Raise Try ExceptHandler Constant List Tuple Dict Set BinOp UnaryOp BoolOp Compare IfExp Call "
+    "keyword Attribute Subscript Slice ListComp comprehension JoinedStr FormattedValue Name Load Store "
     "Add Sub Mult FloorDiv Mod Pow BitAnd BitOr BitXor LShift RShift USub UAdd Invert Not And Or "
     "Eq NotEq Lt LtE Gt GtE In NotIn Is IsNot".split()
 )
@@ -118,6 +120,11 @@ def value_faults(node):
             faults.append("L27: a text with the sign of L27")
     if isinstance(node, ast.Assign) and len(node.targets) != 1:
         faults.append("L6: several targets")
+    if isinstance(node, ast.FormattedValue):
+        if not isinstance(node.value, ast.Name) or node.conversion not in (-1, ord("r")) or node.format_spec:
+            faults.append("L7: an f-string that is not plain")
+    if isinstance(node, ast.BinOp) and isinstance(node.op, ast.Pow) and not isinstance(node.right, ast.Constant):
+        faults.append("L27: an exponent that is not written")
     if isinstance(node, (ast.For, ast.While)) and node.orelse or isinstance(node, ast.Try) and node.finalbody:
         faults.append("L6: else behind a loop, or finally")
     if isinstance(node, ast.ListComp) and (len(node.generators) > 1 or len(node.generators[0].ifs) > 1):
@@ -127,6 +134,63 @@ def value_faults(node):
         if not any(isinstance(one, ast.Constant) and one.value in (None, True, False) for one in sides):
             faults.append("L20: is")
     return faults
+
+
+def spread_faults(tree):
+    """What must be walked at once, and classes, which are called, raised, taken or a base alone."""
+    classes = {one.name for one in tree.body if isinstance(one, ast.ClassDef)}
+    for node in tree.body:
+        if isinstance(node, ast.ImportFrom):
+            classes.update(one.name for one in node.names if one.name[0].isupper() and not one.name.isupper())
+    around = {inner: node for node in ast.walk(tree) for inner in ast.iter_child_nodes(node)}
+    faults = []
+    for node in ast.walk(tree):
+        outer = around.get(node)
+        called = getattr(getattr(outer, "func", None), "id", getattr(getattr(outer, "func", None), "attr", None))
+        if isinstance(node, ast.Call) and getattr(node.func, "id", None) in WALKED:
+            walked = isinstance(outer, (ast.For, ast.comprehension)) and outer.iter is node
+            if not walked and called not in WALKERS:
+                faults.append(f"L23: {node.func.id}")
+        if isinstance(node, ast.Name) and node.id in classes:
+            fine = isinstance(outer, (ast.ClassDef, ast.ExceptHandler, ast.Attribute)) or called == "isinstance"
+            if not fine and not (isinstance(outer, ast.Call) and outer.func is node):
+                faults.append(f"L18: {node.id}")
+        if isinstance(node, ast.Raise) and not isinstance(node.exc, ast.Call):
+            faults.append("L19: an error that is not made on the spot")
+        if isinstance(node, ast.ExceptHandler) and getattr(node.type, "id", "Exception") in ("Exception", "TypeError"):
+            faults.append("L19: except")
+    return faults
+
+
+def top_faults(tree):
+    """A name is bound once at a file's top, and a list or dict there holds none itself."""
+    bound, faults = [], []
+    for node in tree.body:
+        if isinstance(node, ast.ImportFrom):
+            bound += [one.asname or one.name for one in node.names]
+        bound += [target.id for target in getattr(node, "targets", [])] + [getattr(node, "name", None)]
+        if isinstance(node, ast.Assign):
+            inner = [one for one in ast.walk(node.value) if one is not node.value]
+            if any(isinstance(one, (ast.List, ast.Dict, ast.Set, ast.Call, ast.BinOp)) for one in inner):
+                faults.append("L15: a list or dict within another")
+            if isinstance(node.value, (ast.Call, ast.BinOp, ast.Set, ast.ListComp)):
+                faults.append("L3: no plain value")
+        elif not isinstance(node, (ast.ImportFrom, ast.FunctionDef, ast.ClassDef, ast.Expr)):
+            faults.append("L3: something is done at the top")
+    names = [name for name in bound if name is not None]
+    return faults + [f"L15: {name} is bound twice" for name in set(names) if names.count(name) > 1]
+
+
+def method_and_value_faults(texts):
+    """No name is a method in one class and a value in another."""
+    methods, values = set(), set()
+    for text in texts:
+        for node in ast.walk(ast.parse(text)):
+            if isinstance(node, ast.ClassDef):
+                methods.update(one.name for one in node.body if isinstance(one, ast.FunctionDef))
+            if isinstance(node, ast.Attribute) and isinstance(node.ctx, ast.Store):
+                values.add(node.attr)
+    return [f"L18: {name}" for name in sorted(methods & values)]
 
 
 def local_faults(tree):
@@ -167,7 +231,7 @@ def ring_faults(drawn):
 
 def tree_faults(text, own):
     tree = ast.parse(text)
-    faults = local_faults(tree)
+    faults = local_faults(tree) + top_faults(tree) + spread_faults(tree)
     for node in ast.walk(tree):
         if node.__class__.__name__ not in NODES:
             faults.append(f"L6 or L7: {node.__class__.__name__}")
@@ -216,6 +280,9 @@ class Form(unittest.TestCase):
                 text = one.read_bytes().decode("ascii")
                 self.assertEqual(text_faults(text) + tree_faults(text, own), [])
 
+    def test_no_name_is_a_method_and_a_value(self):
+        self.assertEqual(method_and_value_faults([one.read_text() for one in files()]), [])
+
     def test_no_two_files_draw_from_one_another(self):
         self.assertEqual(ring_faults({one.stem: drawn_from(one.read_text()) for one in files()}), [])
 
@@ -227,10 +294,15 @@ class FormIsSeen(unittest.TestCase):
             "from roundcede import exact\n", "x = 1 / 2\n", "x = 0.5\n", "x = b'a'\n", "x = {1: 2 for y in z}\n",
             "x = open('a')\n", "x = chr(65)\n", "def f(*a):\n    pass\n", "def f():\n    import time\n",
             "def _f():\n    pass\n", "def f(id):\n    pass\n", "x = y = 1\n", "x = a is b\n", "x = a.sort()\n",
-            "assert x\n", "x = '%'\n", "class A:\n    x = 1\n", "x = [a for a in b for c in d]\n", "with a:\n    pass\n",
-            "from roundcede.exact import less\ndef f(less):\n    pass\n", "class A:\n    def f(self, A):\n        pass\n",
+            "assert x\n", "x = '%'\n", "class A:\n    x = 1\n", "x = [a for a in b for c in d]\n",
+            "with a:\n    pass\n", "from roundcede.exact import less\ndef f(less):\n    pass\n",
+            "class A:\n    def f(self, A):\n        pass\n",
             "from roundcede.exact import less\ndef f():\n    for less in a:\n        pass\n",
             "def f():\n" + "    pass\n" * 40, "for a in b:\n    pass\nelse:\n    pass\n",
+            "def f(a):\n    return f'{a[0]}'\n", "def f(a):\n    return f'{a:3}'\n", "def f(a):\n    return 2 ** a\n",
+            "x = 1\nx = 2\n", "x = {1: [2]}\n", "x = [a for a in b]\n", "def f(a):\n    b = zip(a, a)\n    return b\n",
+            "class A:\n    pass\ndef f():\n    return [A]\n", "def f(e):\n    raise e\n", "f()\nif f:\n    pass\n",
+            "def f(g):\n    try:\n        g()\n    except Exception:\n        pass\n",
         ):
             with self.subTest(text=text):
                 self.assertNotEqual(tree_faults(text, set()), [])
@@ -239,6 +311,11 @@ class FormIsSeen(unittest.TestCase):
         for text in ("\t\n", "# \u00e9\n", "#" * 121 + "\n", "x\n" * 401, "# a type\n", "# mydataclasses\n", "x\r\n"):
             with self.subTest(text=text[:20]):
                 self.assertNotEqual(text_faults(text), [])
+
+    def test_a_name_that_is_a_method_and_a_value_is_found(self):
+        one = "class A:\n    def f(self):\n        self.g = 1\n"
+        self.assertEqual(method_and_value_faults([one]), [])
+        self.assertEqual(method_and_value_faults([one, "class B:\n    def g(self):\n        pass\n"]), ["L18: g"])
 
     def test_files_that_draw_from_one_another_are_found(self):
         self.assertEqual(ring_faults({"a": ["b"], "b": ["c"], "c": []}), [])

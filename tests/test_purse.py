@@ -2,26 +2,12 @@ import itertools
 import unittest
 from fractions import Fraction
 
-from helper import OPEN, Case, dice, split
+from helper import OPEN, Case, dice, given, split, written
 from roundcede.equations import arrivals, shares
 from roundcede.purse import coins
 from roundcede.rounds import walk
 
 TINY = Fraction(1, 10 ** 40)
-
-
-def written(parts):
-    return [(part.numerator, part.denominator) for part in parts]
-
-
-def given(amount, parts):
-    """Tells the coins by the words of point 12."""
-    due = [amount * Fraction(*part) for part in parts]
-    told = [one.numerator // one.denominator for one in due]
-    order = sorted(range(len(parts)), key=lambda place: (told[place] - due[place], place))
-    for place in order[:amount - sum(told)]:
-        told[place] += 1
-    return told
 
 
 def cut(whole, many, seed):

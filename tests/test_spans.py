@@ -152,7 +152,8 @@ class Stretches(unittest.TestCase):
                 for place, row in enumerate(told):
                     row[2].append(-1)
                     self.assertEqual(row[2], wanted[place][2] + [-1])
-                    self.assertEqual([later[2] for later in told[place + 1:]], [later[2] for later in wanted[place + 1:]])
+                    later = [one[2] for one in told[place + 1:]]
+                    self.assertEqual(later, [one[2] for one in wanted[place + 1:]])
                 told.clear()
                 self.assertEqual(stretches(spans), wanted)
                 self.assertEqual(spans, before)
